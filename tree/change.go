@@ -4,6 +4,7 @@ import (
 	"bytes"
 
 	"smartcard/api"
+	"smartcard/batch"
 	"smartcard/filehead"
 )
 
@@ -90,34 +91,12 @@ func (t *Tree) Remove(h int) api.Errno {
 	case len(l.children(h)) > 0:
 		return api.ErrBusy
 	}
-	return t.together(func() api.Errno {
+	return batch.Do(t.v, func() api.Errno {
 		if e := t.v.Delete(api.ItemContents + h); e != api.OK && e != api.ErrNone {
 			return e
 		}
 		return t.v.Delete(api.ItemFiles + h)
 	})
-}
-
-// together makes changes of the vault, all of them or none: within the transaction, if there is one, or else in one of their own.
-func (t *Tree) together(change func() api.Errno) api.Errno {
-	own := !t.v.Active()
-	if own {
-		t.v.Begin()
-	}
-	mark := t.v.Save()
-	e := change()
-	if own && e == api.OK {
-		e = t.v.Commit()
-	}
-	switch {
-	case e == api.OK:
-		return api.OK
-	case own:
-		t.v.Abort()
-	default:
-		t.v.Back(mark)
-	}
-	return e
 }
 
 // SetState changes the life-cycle state of a file by an operation.
